@@ -3,33 +3,8 @@
 import unittest
 
 from bedsheet.boards import fills
-from bedsheet.errors import NoSheet, SheetError
-
-SHAPES = [(high, wide) for high in range(1, 4) for wide in range(1, 4)]
-# Point 1 bounds boxes at three by three, and nothing is refused for lying somewhat beyond.
-BEYOND = [(4, 4), (4, 2), (2, 5), (1, 7), (5, 1)]
-LONG = 10 ** 32 - 1
-
-
-def full_sheet(high, wide):
-    size = high * wide
-    return [(wide * (row % high) + row // high + column) % size + 1 for row in range(size) for column in range(size)]
-
-
-def renamed(filled, size):
-    return [number % size + 1 for number in filled]
-
-
-def with_at(numbers, place, number):
-    return numbers[:place] + [number] + numbers[place + 1:]
-
-
-def swapped(numbers, one, other):
-    return with_at(with_at(numbers, one, numbers[other]), other, numbers[one])
-
-
-def without(numbers, places):
-    return [0 if place in places else number for place, number in enumerate(numbers)]
+from bedsheet.errors import NoSheet
+from tests.plain import BEYOND, LONG, SHAPES, Case, full_sheet, renamed, swapped, with_at, without
 
 
 def kinds_with_twice(high, wide, numbers):
@@ -44,30 +19,18 @@ def kinds_with_twice(high, wide, numbers):
     return [kind for kind, groups in kinds.items() if any(len(set(held)) < len(held) for held in groups.values())]
 
 
-class Case(unittest.TestCase):
-    def asked(self, high, wide, sheet, filled):
-        sheet_before = list(sheet)
-        filled_before = list(filled)
-        try:
-            return fills(high, wide, sheet, filled)
-        finally:
-            self.assertEqual(sheet, sheet_before)
-            self.assertEqual(filled, filled_before)
-
+class FillsCase(Case):
     def yes(self, high, wide, sheet, filled):
-        self.assertIs(self.asked(high, wide, sheet, filled), True)
+        self.answers(True, fills, high, wide, sheet, filled)
 
     def no(self, high, wide, sheet, filled):
-        self.assertIs(self.asked(high, wide, sheet, filled), False)
+        self.answers(False, fills, high, wide, sheet, filled)
 
-    def refused(self, high, wide, sheet, filled):
-        for error in (NoSheet, SheetError, ValueError):
-            with self.assertRaises(error) as caught:
-                self.asked(high, wide, sheet, filled)
-            self.assertIs(type(caught.exception), NoSheet)
+    def no_sheet(self, high, wide, sheet, filled):
+        self.refused(NoSheet, fills, high, wide, sheet, filled)
 
 
-class FillsTrue(Case):
+class FillsTrue(FillsCase):
     def test_none_some_and_all_empty(self):
         for high, wide in SHAPES + BEYOND:
             with self.subTest(high=high, wide=wide):
@@ -122,7 +85,7 @@ class FillsTrue(Case):
         self.no(3, 3, sheet, renamed(filled, 9))
 
 
-class FillsFalse(Case):
+class FillsFalse(FillsCase):
     def test_a_nought_in_filled(self):
         for high, wide in SHAPES:
             full = full_sheet(high, wide)
@@ -208,7 +171,7 @@ class FillsFalse(Case):
         for high, wide in SHAPES[1:]:
             size = high * wide
             full = full_sheet(high, wide)
-            # The first field's row, its column, and its box crosswise: in boxes of two and more each way, a group alone.
+            # The first field's row, its column, and its box crosswise: each a group alone, where boxes are not thin.
             others = [size - 1, size * (size - 1)] + ([size + 1] if high > 1 and wide > 1 else [])
             for other in others:
                 for number in range(1, size + 1):
@@ -219,7 +182,7 @@ class FillsFalse(Case):
                         self.no(high, wide, sheet, list(sheet))
 
 
-class Refused(Case):
+class Refused(FillsCase):
     def lists_of_another_length(self, full):
         empty = [0] * len(full)
         return [[], full[:-1], full[1:], empty[:-1], full + [1], full + [0], empty + [0], full + full]
@@ -234,11 +197,11 @@ class Refused(Case):
     def check_both_ways(self, high, wide, wrong):
         full = full_sheet(high, wide)
         for other in (full, [0] * len(full), with_at(full, 0, 0), renamed(full, high * wide)):
-            self.refused(high, wide, list(wrong), list(other))
-            self.refused(high, wide, list(other), list(wrong))
-        self.refused(high, wide, list(wrong), list(wrong))
-        self.refused(high, wide, list(wrong), [])
-        self.refused(high, wide, [], list(wrong))
+            self.no_sheet(high, wide, list(wrong), list(other))
+            self.no_sheet(high, wide, list(other), list(wrong))
+        self.no_sheet(high, wide, list(wrong), list(wrong))
+        self.no_sheet(high, wide, list(wrong), [])
+        self.no_sheet(high, wide, [], list(wrong))
 
     def test_another_length(self):
         for high, wide in SHAPES:
@@ -276,7 +239,7 @@ class Refused(Case):
             for number in (0, 1, high * wide):
                 with self.subTest(high=high, wide=wide, number=number):
                     expected = high * wide == 1 and number == 1
-                    self.assertIs(self.asked(high, wide, [number] * fields, [number] * fields), expected)
+                    self.answers(expected, fills, high, wide, [number] * fields, [number] * fields)
 
 
 if __name__ == "__main__":

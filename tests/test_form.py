@@ -18,8 +18,9 @@ WORDS_OUT = (
     r"NamedTuple|TypedDict|TYPE_CHECKING|abstractmethod)\b|dataclass|overload|contextmanager"
 )
 NODES_OUT = (
-    ast.With, ast.Match, ast.Delete, ast.Global, ast.Nonlocal, ast.Assert, ast.Yield, ast.YieldFrom, ast.AsyncFunctionDef,
-    ast.Await, ast.SetComp, ast.DictComp, ast.GeneratorExp, ast.NamedExpr, ast.Starred, ast.Div, ast.Import,
+    ast.With, ast.Match, ast.Delete, ast.Global, ast.Nonlocal, ast.Assert, ast.Yield, ast.YieldFrom,
+    ast.AsyncFunctionDef, ast.Await, ast.SetComp, ast.DictComp, ast.GeneratorExp, ast.NamedExpr, ast.Starred, ast.Div,
+    ast.Import,
 )
 
 
@@ -43,6 +44,11 @@ def bound_names(tree):
     return names
 
 
+def method_names(tree):
+    classes = [node for node in ast.walk(tree) if isinstance(node, ast.ClassDef)]
+    return {node.name for made in classes for node in made.body if isinstance(node, ast.FunctionDef)}
+
+
 class Form(unittest.TestCase):
     def test_files(self):
         self.assertIn("boards.py", [path.name for path in FILES])
@@ -54,7 +60,7 @@ class Form(unittest.TestCase):
             for node in ast.walk(tree):
                 if isinstance(node, ast.ImportFrom):
                     self.assertEqual(node.level, 0)
-                    self.assertRegex(node.module, r"^bedsheet\.")
+                    self.assertRegex(node.module, r"^(bedsheet\.[a-z0-9_.]+|__future__)$")
 
     def test_no_statement_or_value_from_outside(self):
         for tree in trees():
@@ -66,7 +72,7 @@ class Form(unittest.TestCase):
             bound = bound_names(tree)
             read = {node.id for node in ast.walk(tree) if isinstance(node, ast.Name)}
             self.assertEqual(read - bound - OWN_NAMES, set())
-            self.assertEqual(bound & set(dir(builtins)), set())
+            self.assertEqual((bound - method_names(tree)) & set(dir(builtins)), set())
             for name in bound:
                 self.assertRegex(name, r"^([A-Za-z][A-Za-z0-9_]*|__(init|eq|repr|str|len)__)$")
 

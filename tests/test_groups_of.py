@@ -3,10 +3,7 @@
 import unittest
 
 from bedsheet.boards import groups_of
-
-SHAPES = [(high, wide) for high in range(1, 4) for wide in range(1, 4)]
-# Point 1 bounds boxes at three by three, and nothing is refused for lying somewhat beyond.
-BEYOND = [(4, 4), (4, 2), (2, 5), (1, 7), (5, 1)]
+from tests.plain import BEYOND, SHAPES
 
 
 def box_of_field(high, wide, field):
